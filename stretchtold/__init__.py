@@ -1,0 +1,1 @@
+"""Stretchtold: how many things lie in told stretches of a row of cells."""
