@@ -16,7 +16,7 @@ CHAIN = (("fact", 0, -1), ("cell", 0, 1), ("fact", 1, 1))
 NO_BOOKS = [None, True, 1, "book", (4, 3, ()), [TOLD], {}]
 NO_STRETCHES = [(0, 0), (1, 0), (4, 4), (-1, 1), (0, 5), (4, 5)]
 NO_STRETCHES += [(value, 1) for value in NO_INTEGERS] + [(0, value) for value in NO_INTEGERS]
-NO_WORDS = NO_INTEGERS + ["Greatest", "least ", "most", b"least", ("greatest",), ["least"]]
+NO_WORDS = NO_INTEGERS + ["Greatest", "least ", "most", ("greatest",), ["least"]]
 
 # What is no link of TOLD: other lengths, words, indexes and ways.
 NO_LINKS = NO_INTEGERS + ["fact", ("fact", 0), ("fact", 0, 1, 1), ["fact", 0, 1], ("row", 0, 1), ("", 0, 1),
