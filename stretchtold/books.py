@@ -17,7 +17,7 @@ class Book:
             raise BadCells()
         if not is_between(most, 0, GREATEST_MOST):
             raise BadMost()
-        check_facts(facts, cells)
+        check_facts(facts, cells, is_stretch)
         self._cells = cells
         self._most = most
         self._facts = facts
@@ -46,11 +46,15 @@ def is_stretch(begin, end, cells):
     return is_between(begin, 0, cells) and is_between(end, begin + 1, cells)
 
 
-def is_fact(value, cells):
+def all_stretches(cells):
+    return [(begin, end) for begin in range(cells) for end in range(begin + 1, cells + 1)]
+
+
+def is_fact(value, cells, is_its_stretch):
     if not isinstance(value, tuple) or len(value) != 4:
         return False
     begin, end, low, high = value
-    return (is_stretch(begin, end, cells) and is_between(low, 0, GREATEST_TOLD)
+    return (is_its_stretch(begin, end, cells) and is_between(low, 0, GREATEST_TOLD)
             and is_between(high, low, GREATEST_TOLD))
 
 
@@ -60,11 +64,12 @@ def is_row(value, book):
     return all([is_between(number, 0, book.most) for number in value])
 
 
-def check_facts(facts, cells):
+def check_facts(facts, cells, is_its_stretch):
+    """Raise BadFacts unless all is right; which places are a stretch, a function of them and cells tells."""
     if not isinstance(facts, tuple) or len(facts) > MOST_FACTS:
         raise BadFacts(None)
     for index, value in enumerate(facts):
-        if not is_fact(value, cells):
+        if not is_fact(value, cells, is_its_stretch):
             raise BadFacts(index)
 
 
@@ -87,6 +92,10 @@ def holds(fact, row):
     """Whether in the stretch of a fact lie as many things of a row as it tells."""
     begin, end, low, high = fact
     return low <= sum(row[begin:end]) <= high
+
+
+def fits(book, row):
+    return all([holds(fact, row) for fact in book.facts])
 
 
 def broken(book, row):

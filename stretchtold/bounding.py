@@ -3,7 +3,7 @@
 from stretchtold.books import check_book, check_stretch
 from stretchtold.checks import is_integer
 from stretchtold.errors import BadNumber, NoRow
-from stretchtold.tables import table_least_row, told_table, with_fact
+from stretchtold.tables import table_bounds, table_least_row, told_table, with_fact
 
 
 def book_table(book):
@@ -38,8 +38,7 @@ def bounds(book, begin, end):
     """The least and the greatest number of things in a stretch, of all rows that fit."""
     check_book(book)
     check_stretch(book, begin, end)
-    table = fitting_table(book)
-    return -table[end][begin], table[begin][end]
+    return table_bounds(fitting_table(book), begin, end)
 
 
 def row_with(book, begin, end, number):

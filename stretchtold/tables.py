@@ -22,6 +22,9 @@ def with_step(table, start, goal, weight):
     behind = table[goal]
     if behind[start] + weight < 0:
         return None
+    if table[start][goal] <= weight:
+        # Going through lots of facts, most steps tell nothing new: no second table is needed for them.
+        return table
     # One pass is enough: no way round is below 0, so no least chain takes the step twice.
     return [[min(known, line[start] + weight + more) for known, more in zip(line, behind)]
             for line in table]
@@ -44,11 +47,25 @@ def told_table(cells, most, facts):
     return table
 
 
+def table_bounds(table, begin, end):
+    """The least and the greatest number of things between two places."""
+    return -table[end][begin], table[begin][end]
+
+
+def row_of(ahead):
+    """The row that has these numbers of things ahead of its places."""
+    return tuple([after - before for before, after in zip(ahead, ahead[1:])])
+
+
 def table_least_row(table):
     """The least row of a table.
 
     The places can have their least numbers of things ahead all at once, and the row
     that has them is the least one, too: it is so at the first cell, and then on.
     """
-    ahead = [-line[0] for line in table]
-    return tuple([after - before for before, after in zip(ahead, ahead[1:])])
+    return row_of([-line[0] for line in table])
+
+
+def table_most_row(table):
+    """The row of a table that has the greatest numbers of things ahead of all its places."""
+    return row_of(table[0])

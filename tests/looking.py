@@ -4,9 +4,21 @@ from itertools import combinations, product
 from random import Random
 
 from stretchtold.books import Book
+from stretchtold.rings import Ring
 
 # What is no integer, whatever the limits are.
-NO_INTEGERS = [None, True, False, "", "1", (), (1,), [], [1], {}, {1: 1}, Book(1, 1, ())]
+NO_INTEGERS = [None, True, False, "", "1", (), (1,), [], [1], {}, {1: 1}, Book(1, 1, ()), Ring(1, 1, ())]
+
+NO_BOOKS = [None, True, 1, "book", (4, 3, ()), [Book(4, 3, ())], {}, Ring(4, 3, ())]
+
+# What is no stretch of four cells.
+NO_STRETCHES = [(0, 0), (1, 0), (4, 4), (-1, 1), (0, 5), (4, 5)]
+NO_STRETCHES += [(value, 1) for value in NO_INTEGERS] + [(0, value) for value in NO_INTEGERS]
+
+# What is no row of four cells with at most 3 things each.
+NO_ROWS = [None, True, 1, "1111", [1, 1, 1, 1], {}, Book(4, 3, ()), (), (1, 1, 1), (1, 1, 1, 1, 1)]
+NO_ROWS += [(value, 1, 1, 1) for value in NO_INTEGERS + [-1, 4]]
+NO_ROWS += [(1, 1, 1, value) for value in NO_INTEGERS + [-1, 4]]
 
 GREAT = 10 ** 30
 
@@ -22,6 +34,15 @@ def row_fits(facts, row):
 def fitting(book, facts=None):
     facts = book.facts if facts is None else facts
     return [row for row in all_rows(book) if row_fits(facts, row)]
+
+
+def lots(facts):
+    """All ascending tuples of indexes of facts, the shorter ones ahead."""
+    return [lot for size in range(len(facts) + 1) for lot in combinations(range(len(facts)), size)]
+
+
+def shortest(found):
+    return [lot for lot in found if len(lot) == len(found[0])]
 
 
 def stretches(book):
@@ -87,6 +108,26 @@ def small_books(seed, many):
     return out
 
 
+def fact_around(random, row, spare):
+    """A fact that holds for a row, with up to so many things to spare on both sides."""
+    begin = random.randrange(len(row))
+    end = random.randint(begin + 1, len(row))
+    there = sum(row[begin:end])
+    return begin, end, max(0, there - random.randint(0, spare)), there + random.randint(0, spare)
+
+
+def possible_books(seed, many):
+    """Books small enough to look at all rows, each fitted by some row, often by many."""
+    random = Random(seed)
+    out = []
+    for _ in range(many):
+        cells, most = random.randint(1, 4), random.randint(1, 4)
+        row = [random.randint(0, most) for _ in range(cells)]
+        facts = [fact_around(random, row, random.randint(0, 3)) for _ in range(random.randint(0, 4))]
+        out.append(Book(cells, most, tuple(facts)))
+    return out
+
+
 def tiny_books():
     """All books of two cells with at most one thing each, and two facts."""
     facts = [(begin, end, low, high) for begin, end in ((0, 1), (1, 2), (0, 2))
@@ -100,12 +141,28 @@ def great_books(seed, many):
     out = []
     for _ in range(many):
         row = tuple([random.choice([0, GREAT, random.randint(0, GREAT)]) for _ in range(20)])
-        facts = []
-        for _ in range(12):
-            begin = random.randrange(20)
-            end = random.randint(begin + 1, 20)
-            there = sum(row[begin:end])
-            spare = random.choice([0, 10 ** 28, 10 ** 31])
-            facts.append((begin, end, max(0, there - random.randint(0, spare)), there + random.randint(0, spare)))
+        facts = [fact_around(random, row, random.choice([0, 10 ** 28, 10 ** 31])) for _ in range(12)]
         out.append((Book(20, GREAT, tuple(facts)), row))
     return out
+
+
+def times(book, factor):
+    """The book with all numbers so many times as great, and with further cells up to twenty."""
+    facts = [(begin, end, low * factor, high * factor) for begin, end, low, high in book.facts]
+    return Book(20, book.most * factor, tuple(facts))
+
+
+def lifted(book):
+    """The book with all numbers in cells lifted, so that the greatest is GREAT, and nothing in further cells up to 20.
+
+    A row fits the book just if the row that lift gives fits the lifted one.
+    """
+    more = GREAT - book.most
+    facts = [(cell, cell + 1, more, GREAT) for cell in range(book.cells)]
+    facts += [(begin, end, low + (end - begin) * more, high + (end - begin) * more)
+              for begin, end, low, high in book.facts]
+    return Book(20, GREAT, tuple(facts) + ((book.cells, 20, 0, 0),))
+
+
+def lift(book, row):
+    return tuple([number + GREAT - book.most for number in row]) + (0,) * (20 - book.cells)

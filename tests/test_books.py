@@ -4,7 +4,8 @@ import unittest
 
 from stretchtold.books import Book, broken
 from stretchtold.errors import BadBook, BadCells, BadFacts, BadMost, BadRow
-from tests.looking import GREAT, NO_INTEGERS, all_rows, row_fits, small_books
+from stretchtold.rings import Ring
+from tests.looking import GREAT, NO_BOOKS, NO_INTEGERS, NO_ROWS, all_rows, row_fits, small_books
 
 TOLD = Book(4, 3, ((0, 2, 4, 4), (1, 3, 0, 2)))
 FACT = (0, 1, 0, 1)
@@ -39,7 +40,7 @@ class BookTest(unittest.TestCase):
         self.assertNotEqual(Book(2, 3, (FACT, (0, 2, 0, 1))), Book(2, 3, ((0, 2, 0, 1), FACT)))
 
     def test_equal_to_nothing_of_another_kind(self):
-        for other in (None, True, 0, "", (), (2, 3, ()), [2, 3, ()], {}):
+        for other in (None, True, 0, "", (), (2, 3, ()), [2, 3, ()], {}, Ring(2, 3, ())):
             self.assertFalse(Book(2, 3, ()) == other)
             self.assertFalse(other == Book(2, 3, ()))
 
@@ -108,15 +109,12 @@ class BrokenTest(unittest.TestCase):
         self.assertEqual(broken(book, (GREAT,) * 19 + (GREAT - 1,)), [0])
 
     def test_no_book(self):
-        for book in [None, True, 1, "book", (4, 3, ()), [TOLD], {}]:
+        for book in NO_BOOKS:
             with self.subTest(book=book), self.assertRaises(BadBook):
                 broken(book, None)
 
     def test_no_row(self):
-        rows = [None, True, 1, "1111", [1, 1, 1, 1], {}, TOLD, (), (1, 1, 1), (1, 1, 1, 1, 1)]
-        for value in NO_INTEGERS + [-1, 4]:
-            rows += [(value, 1, 1, 1), (1, 1, 1, value)]
-        for row in rows:
+        for row in NO_ROWS:
             with self.subTest(row=row), self.assertRaises(BadRow):
                 broken(TOLD, row)
 

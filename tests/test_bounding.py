@@ -5,14 +5,11 @@ import unittest
 from stretchtold.books import Book, broken
 from stretchtold.bounding import bounds, is_possible, least_row, needless, row_with, sure_cells
 from stretchtold.errors import BadBook, BadNumber, BadStretch, NoRow
-from tests.looking import (GREAT, NO_INTEGERS, fitting, great_books, numbers_in, small_books, stretches,
-                           tiny_books)
+from tests.looking import (GREAT, NO_BOOKS, NO_INTEGERS, NO_STRETCHES, fitting, great_books, numbers_in, small_books,
+                           stretches, tiny_books)
 
 TOLD = Book(4, 3, ((0, 2, 4, 4), (1, 3, 0, 2)))
 OFF = Book(2, 3, ((0, 2, 7, 9),))
-NO_BOOKS = [None, True, 1, "book", (4, 3, ()), [TOLD], {}]
-NO_STRETCHES = [(0, 0), (1, 0), (4, 4), (-1, 1), (0, 5), (4, 5)]
-NO_STRETCHES += [(value, 1) for value in NO_INTEGERS] + [(0, value) for value in NO_INTEGERS]
 
 
 def least_bounds(rows, begin, end):

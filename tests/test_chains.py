@@ -7,15 +7,12 @@ from stretchtold.books import Book
 from stretchtold.bounding import bounds
 from stretchtold.chains import clash, fewest, is_clash, paper, shows
 from stretchtold.errors import BadBook, BadNumber, BadStretch, BadWord, NoRow
-from tests.looking import (GREAT, NO_INTEGERS, all_links, chain_walk, facts_in, fewest_facts, fitting, great_books,
-                           numbers_in, small_books, stretches, tiny_books)
+from tests.looking import (GREAT, NO_BOOKS, NO_INTEGERS, NO_STRETCHES, all_links, chain_walk, facts_in, fewest_facts,
+                           fitting, great_books, numbers_in, small_books, stretches, tiny_books)
 
 TOLD = Book(4, 3, ((0, 2, 4, 4), (1, 3, 0, 2)))
 OFF = Book(2, 3, ((0, 2, 7, 9), (0, 1, 0, 2)))
 CHAIN = (("fact", 0, -1), ("cell", 0, 1), ("fact", 1, 1))
-NO_BOOKS = [None, True, 1, "book", (4, 3, ()), [TOLD], {}]
-NO_STRETCHES = [(0, 0), (1, 0), (4, 4), (-1, 1), (0, 5), (4, 5)]
-NO_STRETCHES += [(value, 1) for value in NO_INTEGERS] + [(0, value) for value in NO_INTEGERS]
 NO_WORDS = NO_INTEGERS + ["Greatest", "least ", "most", ("greatest",), ["least"]]
 
 # What is no link of TOLD: other lengths, words, indexes and ways.
