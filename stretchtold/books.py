@@ -17,7 +17,7 @@ class Book:
             raise BadCells()
         if not is_between(most, 0, GREATEST_MOST):
             raise BadMost()
-        check_facts(facts, cells, is_stretch)
+        check_facts(facts, MOST_FACTS, cells, is_stretch)
         self._cells = cells
         self._most = most
         self._facts = facts
@@ -64,9 +64,9 @@ def is_row(value, book):
     return all([is_between(number, 0, book.most) for number in value])
 
 
-def check_facts(facts, cells, is_its_stretch):
+def check_facts(facts, most_facts, cells, is_its_stretch):
     """Raise BadFacts unless all is right; which places are a stretch, a function of them and cells tells."""
-    if not isinstance(facts, tuple) or len(facts) > MOST_FACTS:
+    if not isinstance(facts, tuple) or len(facts) > most_facts:
         raise BadFacts(None)
     for index, value in enumerate(facts):
         if not is_fact(value, cells, is_its_stretch):

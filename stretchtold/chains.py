@@ -28,30 +28,44 @@ def fact_step(book, index, way):
     return (begin, end, high) if way == 1 else (end, begin, -low)
 
 
+def is_link(value, word, many):
+    """Whether a value is a link of this word, of which there are so many."""
+    if not isinstance(value, tuple) or len(value) != 3:
+        return False
+    its_word, index, way = value
+    return its_word == word and is_between(index, 0, many - 1) and is_integer(way) and way in (1, -1)
+
+
 def link_step(book, link):
     """The tuple (start, goal, weight) of a link, None for any value that is none."""
-    if not isinstance(link, tuple) or len(link) != 3:
-        return None
-    word, index, way = link
-    if not is_integer(way) or way not in (1, -1):
-        return None
-    if word == "fact" and is_between(index, 0, len(book) - 1):
-        return fact_step(book, index, way)
-    if word == "cell" and is_between(index, 0, book.cells - 1):
-        return cell_step(book, index, way)
+    if is_link(link, "fact", len(book)):
+        return fact_step(book, link[1], link[2])
+    if is_link(link, "cell", book.cells):
+        return cell_step(book, link[1], link[2])
     return None
+
+
+def may_be_chain(value):
+    """Whether a value is a tuple of as many things as a chain may have links."""
+    return isinstance(value, tuple) and is_between(len(value), 1, MOST_LINKS)
 
 
 def chain_step(book, value):
     """The tuple (start, goal, weight) of a whole chain, None for any value that is none."""
-    if not isinstance(value, tuple) or not is_between(len(value), 1, MOST_LINKS):
-        return None
-    steps = [link_step(book, link) for link in value]
+    return whole_step([link_step(book, link) for link in value]) if may_be_chain(value) else None
+
+
+def whole_step(steps):
+    """The tuple (start, goal, weight) of steps one behind the other, None if one is None or they do not join."""
     if None in steps:
         return None
     if any([before[1] != after[0] for before, after in zip(steps, steps[1:])]):
         return None
     return steps[0][0], steps[-1][1], sum([step[2] for step in steps])
+
+
+def links_with(links, word):
+    return [link for link in links if link[0] == word]
 
 
 def cell_links(start, goal):
@@ -71,8 +85,12 @@ def joined_links(book, links, start, goal):
     return chain + cell_links(place, goal)
 
 
+def two_way_links(word, many):
+    return [(word, index, way) for index in range(many) for way in (1, -1)]
+
+
 def fact_links(book):
-    return [("fact", index, way) for index in range(len(book)) for way in (1, -1)]
+    return two_way_links("fact", len(book))
 
 
 def next_layer(book, layer):
@@ -163,4 +181,4 @@ def is_clash(book, value):
 def fewest(book):
     """The number of facts in a clash with the fewest, None if some row fits."""
     found = clash(book)
-    return None if found is None else len([link for link in found if link[0] == "fact"])
+    return None if found is None else len(links_with(found, "fact"))

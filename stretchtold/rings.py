@@ -1,6 +1,6 @@
 """Rings: rows that go round, the cell 0 standing behind the last one."""
 
-from stretchtold.books import check_facts
+from stretchtold.books import MOST_FACTS, check_facts
 from stretchtold.checks import is_between
 from stretchtold.errors import BadCells, BadMost, BadRing, BadStretch, NoRow
 from stretchtold.tables import table_bounds, table_least_row, told_table
@@ -17,7 +17,7 @@ class Ring:
             raise BadCells()
         if not is_between(most, 0, GREATEST_RING_MOST):
             raise BadMost()
-        check_facts(facts, cells, is_ring_stretch)
+        check_facts(facts, MOST_FACTS, cells, is_ring_stretch)
         self._cells = cells
         self._most = most
         self._facts = facts

@@ -4,19 +4,23 @@ from itertools import combinations, product
 from random import Random
 
 from stretchtold.books import Book
+from stretchtold.desks import Desk
+from stretchtold.errors import CountError
 from stretchtold.rings import Ring
+from stretchtold.rounds import Round
 
 # What is no integer, whatever the limits are.
-NO_INTEGERS = [None, True, False, "", "1", (), (1,), [], [1], {}, {1: 1}, Book(1, 1, ()), Ring(1, 1, ())]
+NO_INTEGERS = [None, True, False, "", "1", (), (1,), [], [1], {}, {1: 1}, ((1,), [None, {"": True}]),
+               Book(1, 1, ()), Ring(1, 1, ()), Round(1, 1, ()), Desk(1, 1), CountError()]
 
-NO_BOOKS = [None, True, 1, "book", (4, 3, ()), [Book(4, 3, ())], {}, Ring(4, 3, ())]
+NO_BOOKS = [None, True, 1, "book", (4, 3, ()), [Book(4, 3, ())], {}, Ring(4, 3, ()), Round(4, 3, ()), Desk(4, 3)]
 
 # What is no stretch of four cells.
 NO_STRETCHES = [(0, 0), (1, 0), (4, 4), (-1, 1), (0, 5), (4, 5)]
 NO_STRETCHES += [(value, 1) for value in NO_INTEGERS] + [(0, value) for value in NO_INTEGERS]
 
 # What is no row of four cells with at most 3 things each.
-NO_ROWS = [None, True, 1, "1111", [1, 1, 1, 1], {}, Book(4, 3, ()), (), (1, 1, 1), (1, 1, 1, 1, 1)]
+NO_ROWS = [None, True, 1, "1111", [1, 1, 1, 1], {}, Book(4, 3, ()), Desk(4, 3), (), (1, 1, 1), (1, 1, 1, 1, 1)]
 NO_ROWS += [(value, 1, 1, 1) for value in NO_INTEGERS + [-1, 4]]
 NO_ROWS += [(1, 1, 1, value) for value in NO_INTEGERS + [-1, 4]]
 
@@ -67,28 +71,62 @@ def all_links(book):
     return facts + [("cell", index, way) for index in range(book.cells) for way in (1, -1)]
 
 
-def link_walk(book, link):
+def far_links(book):
+    return all_links(book) + [("row", index, way) for index in range(book.cells) for way in (1, -1)]
+
+
+def link_walk(book, link, row):
     word, index, way = link
     if word == "fact":
         begin, end, low, high = book.facts[index]
         return (begin, end, high) if way > 0 else (end, begin, -low)
+    if word == "row":
+        return (index, index + 1, row[index]) if way > 0 else (index + 1, index, -row[index])
     return (index, index + 1, book.most) if way > 0 else (index + 1, index, 0)
 
 
-def chain_walk(book, chain):
-    """Where a chain of real links begins and ends, and its weight; None if it is torn."""
-    first = place = link_walk(book, chain[0])[0]
+def chain_walk(book, chain, row=None):
+    """Where a chain of real links begins and ends, and its weight; None if it is torn. A row is for far links."""
+    first = place = link_walk(book, chain[0], row)[0]
     weight = 0
     for link in chain:
-        start, goal, more = link_walk(book, link)
+        start, goal, more = link_walk(book, link, row)
         if start != place:
             return None
         place, weight = goal, weight + more
     return first, place, weight
 
 
+def links_in(chain, word):
+    return len([link for link in chain if link[0] == word])
+
+
 def facts_in(chain):
-    return len([link for link in chain if link[0] == "fact"])
+    return links_in(chain, "fact")
+
+
+def loop_shows(book, chain, word, number, row=None):
+    """Whether a chain of real links leads back and weighs below 0, its links of a word weighing number - 1 more."""
+    walked = chain_walk(book, chain, row)
+    if walked is None or walked[0] != walked[1]:
+        return False
+    return walked[2] + links_in(chain, word) * (number - 1) < 0
+
+
+def to_and_fro(many, word="cell"):
+    """The cell 0, by links of this word, there and back, and there and back again."""
+    return ((word, 0, 1), (word, 0, -1)) * (many // 2) + ((word, 0, 1),) * (many % 2)
+
+
+def no_links(words, book):
+    """What is no link of these words: other lengths, words, indexes and ways. The book has as many facts as cells."""
+    out = NO_INTEGERS + [words[0], "row" + words[0], ("", 0, 1), ("Cell", 0, 1), ("rows", 0, 1), (("fact",), 0, 1)]
+    out += [(word, 0, 1) for word in NO_INTEGERS if not isinstance(word, tuple)]
+    for word in words:
+        out += [(word,), (word, 0), (word, 0, 1, 1), [word, 0, 1]]
+        out += [(word, index, 1) for index in NO_INTEGERS + [-1, book.cells, GREAT]]
+        out += [(word, 0, way) for way in NO_INTEGERS + [0, 2, -2, GREAT]]
+    return out
 
 
 def random_fact(random, cells, greatest):

@@ -8,7 +8,7 @@ from stretchtold.bounding import bounds
 from stretchtold.chains import clash, fewest, is_clash, paper, shows
 from stretchtold.errors import BadBook, BadNumber, BadStretch, BadWord, NoRow
 from tests.looking import (GREAT, NO_BOOKS, NO_INTEGERS, NO_STRETCHES, all_links, chain_walk, facts_in, fewest_facts,
-                           fitting, great_books, numbers_in, small_books, stretches, tiny_books)
+                           fitting, great_books, numbers_in, small_books, stretches, tiny_books, to_and_fro)
 
 TOLD = Book(4, 3, ((0, 2, 4, 4), (1, 3, 0, 2)))
 OFF = Book(2, 3, ((0, 2, 7, 9), (0, 1, 0, 2)))
@@ -27,11 +27,6 @@ NO_LINKS += [("fact", 0, value) for value in NO_INTEGERS] + [("cell", 0, value) 
 def short_chains(book):
     """All tuples of one to three links, torn ones among them."""
     return [chain for size in (1, 2, 3) for chain in product(all_links(book), repeat=size)]
-
-
-def to_and_fro(many):
-    """The cell 0 there and back, and there and back again."""
-    return (("cell", 0, 1), ("cell", 0, -1)) * (many // 2) + (("cell", 0, 1),) * (many % 2)
 
 
 class ExampleTest(unittest.TestCase):

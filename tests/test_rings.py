@@ -3,102 +3,22 @@
 import unittest
 
 from stretchtold.books import Book
-from stretchtold.errors import BadCells, BadFacts, BadMost, BadRing, BadStretch, NoRow
+from stretchtold.desks import Desk
+from stretchtold.errors import BadRing, BadStretch, NoRow
 from stretchtold.rings import Ring, ring_bounds, ring_row, ring_totals
-from tests.looking import NO_INTEGERS
+from stretchtold.rounds import Round
+from tests.ring_kinds import NO_RING_STRETCHES, RingKindTests
 from tests.turning import (fitting_ring, full_rings, paired_rings, ring_stretches, ring_sum, searched_ring,
                            small_rings)
 
 TOLD = Ring(3, 2, ((2, 4, 4, 4), (0, 2, 0, 2)))
 OFF = Ring(3, 2, ((2, 4, 5, 9),))
-FACT = (0, 1, 0, 1)
-NO_RINGS = [None, True, 1, "ring", (3, 2, ()), [TOLD], {}, Book(3, 2, ((0, 2, 0, 2),))]
-
-# What is no stretch of a ring of three cells.
-NO_STRETCHES = [(-1, 1), (3, 4), (3, 6), (4, 5), (0, 0), (2, 2), (1, 0), (2, 1), (0, 4), (1, 5), (2, 6), (0, -1)]
-NO_STRETCHES += [(value, 1) for value in NO_INTEGERS] + [(0, value) for value in NO_INTEGERS]
+NO_RINGS = [None, True, 1, "ring", (3, 2, ()), [TOLD], {}, Book(3, 2, ((0, 2, 0, 2),)), Round(3, 2, ()), Desk(3, 2)]
 
 
-class RingTest(unittest.TestCase):
-    def test_properties(self):
-        self.assertEqual([TOLD.cells, TOLD.most, TOLD.facts, len(TOLD)], [3, 2, ((2, 4, 4, 4), (0, 2, 0, 2)), 2])
-
-    def test_limits_may_be_reached(self):
-        full = Ring(8, 9, ((7, 15, 0, 10 ** 32),) * 12)
-        self.assertEqual((full.cells, full.most, full.facts, len(full)), (8, 9, ((7, 15, 0, 10 ** 32),) * 12, 12))
-        least = Ring(1, 0, ())
-        self.assertEqual((least.cells, least.most, least.facts, len(least)), (1, 0, (), 0))
-        self.assertEqual(len(Ring(1, 0, ((0, 1, 10 ** 32, 10 ** 32),))), 1)
-
-    def test_properties_cannot_be_set(self):
-        for name in ("cells", "most", "facts"):
-            with self.assertRaises(AttributeError):
-                setattr(Ring(2, 2, ()), name, ())
-
-    def test_equal_if_all_three_are(self):
-        self.assertTrue(Ring(2, 3, (FACT,)) == Ring(2, 3, (FACT,)))
-        self.assertFalse(Ring(2, 3, (FACT,)) != Ring(2, 3, (FACT,)))
-        for other in (Ring(3, 3, (FACT,)), Ring(2, 4, (FACT,)), Ring(2, 3, ()), Ring(2, 3, (FACT, FACT)),
-                      Ring(2, 3, ((0, 1, 0, 2),))):
-            self.assertFalse(Ring(2, 3, (FACT,)) == other)
-            self.assertTrue(Ring(2, 3, (FACT,)) != other)
-        self.assertNotEqual(Ring(2, 3, ((0, 2, 1, 1),)), Ring(2, 3, ((1, 3, 1, 1),)))
-        self.assertNotEqual(Ring(2, 3, (FACT, (1, 3, 0, 1))), Ring(2, 3, ((1, 3, 0, 1), FACT)))
-
-    def test_equal_to_nothing_of_another_kind(self):
-        for other in (None, True, 0, "", (), (2, 3, ()), [2, 3, ()], {}, Book(2, 3, ())):
-            self.assertFalse(Ring(2, 3, ()) == other)
-            self.assertFalse(other == Ring(2, 3, ()))
-
-    def test_a_ring_is_no_book(self):
-        self.assertFalse(isinstance(TOLD, Book))
-        self.assertFalse(isinstance(Book(1, 1, ()), Ring))
-
-    def test_each_method_is_in_the_class_itself(self):
-        for name in ("__init__", "__len__", "__eq__", "cells", "most", "facts"):
-            self.assertIn(name, vars(Ring))
-
-    def test_wrong_cells(self):
-        for cells in NO_INTEGERS + [0, -1, 9, 20, 10 ** 30]:
-            with self.subTest(cells=cells), self.assertRaises(BadCells):
-                Ring(cells, 1, ())
-
-    def test_wrong_most(self):
-        for most in NO_INTEGERS + [-1, 10, 10 ** 30]:
-            with self.subTest(most=most), self.assertRaises(BadMost):
-                Ring(1, most, ())
-
-    def assert_bad_facts(self, cells, facts, index):
-        with self.subTest(facts=facts), self.assertRaises(BadFacts) as caught:
-            Ring(cells, 1, facts)
-        self.assertEqual(caught.exception.index, index)
-        self.assertIs(type(caught.exception.index), type(index))
-
-    def test_facts_that_are_no_tuple_or_too_many(self):
-        for facts in [None, True, 0, 1, "", "fact", [], [FACT], {}, {0: FACT}, TOLD, (FACT,) * 13, (None,) * 13]:
-            self.assert_bad_facts(1, facts, None)
-
-    def test_wrong_facts(self):
-        wrong = NO_INTEGERS + [FACT[:3], FACT + (1,), list(FACT), "0101", 7]
-        wrong += [(begin, end, 0, 1) for begin, end in NO_STRETCHES]
-        wrong += [(0, 1, low, 1) for low in NO_INTEGERS + [-1, 2]]
-        wrong += [(0, 1, 0, high) for high in NO_INTEGERS + [-1, 10 ** 32 + 1]]
-        wrong += [(0, 1, 10 ** 32 + 1, 10 ** 32 + 1), (2, 4, 3, 2)]
-        for value in wrong:
-            self.assert_bad_facts(3, (value,), 0)
-            self.assert_bad_facts(3, ((2, 5, 0, 1),) * 11 + (value,), 11)
-
-    def test_the_first_wrong_fact_is_named(self):
-        self.assert_bad_facts(3, (FACT, (2, 6, 0, 1), FACT, None), 1)
-
-    def test_the_first_wrong_argument_counts(self):
-        self.assertRaises(BadCells, Ring, True, -1, None)
-        self.assertRaises(BadMost, Ring, 1, True, None)
-
-    def test_all_stretches_may_stand_in_facts(self):
-        for cells in range(1, 9):
-            for begin, end in ring_stretches(cells):
-                self.assertEqual(Ring(cells, 1, ((begin, end, 0, 1),)).facts, ((begin, end, 0, 1),))
+class RingTest(RingKindTests, unittest.TestCase):
+    kind = Ring
+    most_cells, greatest_most, most_facts = 8, 9, 12
 
 
 class ExampleTest(unittest.TestCase):
@@ -210,7 +130,7 @@ class WrongTest(unittest.TestCase):
                 self.assertRaises(BadRing, ring_row, ring)
 
     def test_no_stretch(self):
-        for begin, end in NO_STRETCHES:
+        for begin, end in NO_RING_STRETCHES:
             for ring in (TOLD, OFF):
                 with self.subTest(begin=begin, end=end), self.assertRaises(BadStretch):
                     ring_bounds(ring, begin, end)

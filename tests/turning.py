@@ -4,6 +4,9 @@ from itertools import product
 from random import Random
 
 from stretchtold.rings import Ring
+from stretchtold.rounds import Round
+
+GREAT = 10 ** 30
 
 
 def ring_sum(row, begin, end):
@@ -88,4 +91,57 @@ def paired_rings(seed, many):
             there = ring_sum(row, begin, end)
             facts.append((begin, end, max(0, there - random.randint(0, 3)), there + random.randint(0, 3)))
         out.append(Ring(8, 9, tuple(facts)))
+    return out
+
+
+def as_round(ring):
+    return Round(ring.cells, ring.most, ring.facts[:8])
+
+
+def small_rounds(seed, many):
+    return [as_round(ring) for ring in small_rings(seed, many)]
+
+
+def crossed_rounds(seed, many):
+    """Small rounds whose facts overlap one another all around, so that more in all often means less somewhere."""
+    random = Random(seed)
+    out = []
+    for _ in range(many):
+        cells = random.choice([3, 3, 4, 5])
+        most = {3: 6, 4: 4, 5: 2}[cells]
+        row, facts = [random.randint(0, most) for _ in range(cells)], []
+        for begin in range(cells):
+            end = begin + random.randint(2, cells - 1)
+            there = ring_sum(row, begin, end)
+            low, high = random.choice([(0, there), (there, cells * most), (there - 1, there + 1)])
+            facts.append((begin, end, max(0, low), high))
+        out.append(Round(cells, most, tuple(facts)))
+    return out
+
+
+def lifted_round(great):
+    """The round with all numbers in cells lifted, so that the greatest is GREAT.
+
+    A row fits just if the row with these lifted numbers fits the lifted one.
+    """
+    more = GREAT - great.most
+    facts = [(cell, cell + 1, more, GREAT) for cell in range(great.cells)]
+    facts += [(begin, end, low + (end - begin) * more, high + (end - begin) * more)
+              for begin, end, low, high in great.facts]
+    return Round(great.cells, GREAT, tuple(facts))
+
+
+def great_rounds(seed, many, facts):
+    """Rounds of ten cells with numbers of thirty figures and so many facts, and a row that fits each: (round, row)."""
+    random = Random(seed)
+    out = []
+    for _ in range(many):
+        row = tuple([random.choice([0, GREAT, random.randint(0, GREAT)]) for _ in range(10)])
+        told = []
+        for _ in range(facts):
+            begin = random.randrange(10)
+            end = begin + random.randint(1, 10)
+            there, spare = ring_sum(row, begin, end), random.choice([0, 10 ** 28, 10 ** 30])
+            told.append((begin, end, max(0, there - random.randint(0, spare)), there + random.randint(0, spare)))
+        out.append((Round(10, GREAT, tuple(told)), row))
     return out
